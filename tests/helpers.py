@@ -1,0 +1,178 @@
+"""Readers, acceptors and words for the tests, made without the program."""
+
+import random
+from itertools import product
+
+
+def rows(count, most):
+    """All lists of 0 to `most` letters, shorter ones first, then by their letters."""
+    return [list(row) for size in range(most + 1) for row in product(range(count), repeat=size)]
+
+
+def words(count, longest_beginning, longest_round):
+    """All endless words with lists up to these lengths."""
+    return [(list(before), list(again))
+            for before in rows(count, longest_beginning)
+            for again in rows(count, longest_round) if again]
+
+
+def some_words(rng, count, many, longest=6):
+    """Some endless words, chosen by `rng`."""
+    def row(least):
+        return [rng.randrange(count) for _ in range(rng.randrange(least, longest + 1))]
+    return [(row(0), row(1)) for _ in range(many)]
+
+
+def rewritten(rng, word):
+    """The same endless word with another beginning and another round."""
+    before, again = word
+    turn = rng.randrange(len(again) + 1)
+    times = rng.randrange(3)
+    return (before + again * times + again[:turn], (again[turn:] + again[:turn]) * rng.randrange(1, 4))
+
+
+class Automaton:
+    """States with steps by letters, some states to be met endlessly often."""
+
+    def __init__(self, count, states, firsts, steps, again):
+        self.count = count
+        self.states = states
+        self.firsts = firsts
+        self.steps = steps
+        self.again = again
+
+    def takes(self, word):
+        """Searches for a loop through a state of `again` beside the word."""
+        letters = word[0] + word[1]
+
+        def onward(node):
+            p, at = node
+            then = at + 1 if at + 1 < len(letters) else len(word[0])
+            return [(q, then) for (r, a, q) in self.steps if r == p and a == letters[at]]
+
+        def reached(nodes):
+            found = set(nodes)
+            todo = list(nodes)
+            while todo:
+                for node in onward(todo.pop()):
+                    if node not in found:
+                        found.add(node)
+                        todo.append(node)
+            return found
+
+        return any(node in reached(onward(node))
+                   for node in reached([(p, 0) for p in self.firsts])
+                   if node[0] in self.again)
+
+    def seen_as(self, seen, count):
+        """The automaton of what is seen of its letters."""
+        steps = {(p, seen[a], q) for (p, a, q) in self.steps}
+        return Automaton(count, self.states, self.firsts, steps, self.again)
+
+    def reader(self, rng):
+        """A reader that accepts what is taken, its values in any order."""
+        size = range(self.states)
+
+        def joined(x, y):
+            return tuple(tuple(max((max(x[p][r], y[r][q]) for r in size if x[p][r] and y[r][q]),
+                                   default=0) for q in size) for p in size)
+
+        def head(a):
+            return tuple(tuple((2 if p in self.again else 1) if (p, a, q) in self.steps else 0
+                               for q in size) for p in size)
+
+        heads = [head(a) for a in range(self.count)]
+        known = list(dict.fromkeys(heads))
+        for x in known:
+            for y in heads:
+                if joined(x, y) not in known:
+                    known.append(joined(x, y))
+        rng.shuffle(known)
+        number = {key: at for at, key in enumerate(known)}
+        mul = tuple(tuple(number[joined(x, y)] for y in known) for x in known)
+
+        def taken(s, f):
+            return any(known[s][p][q] and known[f][q][q] == 2 for p in self.firsts for q in size)
+
+        accepted = tuple(pair for pair in linked(mul) if taken(*pair))
+        return (tuple(number[key] for key in heads), mul, accepted)
+
+
+def linked(mul):
+    """All linked pairs of a table, ascending."""
+    size = range(len(mul))
+    return [(s, f) for s in size for f in size if mul[s][f] == s and mul[f][f] == f]
+
+
+def some_automaton(rng, count, states):
+    steps = {(p, a, q) for p in range(states) for a in range(count) for q in range(states)
+             if rng.random() < 0.45}
+    again = [p for p in range(states) if rng.random() < 0.5] or [0]
+    return Automaton(count, states, [0], steps, again)
+
+
+def only_word(count, before, letter):
+    """The automaton that takes one word alone: some letters, and then one for ever."""
+    end = len(before)
+    steps = {(p, a, p + 1) for p, a in enumerate(before)} | {(end, letter, end)}
+    return Automaton(count, end + 1, [0], steps, [end])
+
+
+def small_cases(seed, many, count=2, most_values=40):
+    """Pairs of an automaton and a reader for it, with at most so many values."""
+    rng = random.Random(seed)
+    cases = []
+    while len(cases) < many:
+        automaton = some_automaton(rng, count, rng.randrange(1, 4))
+        reader = automaton.reader(rng)
+        if len(reader[1]) <= most_values:
+            cases.append((automaton, reader))
+    return cases
+
+
+def with_more_values(rng, reader):
+    """The same reader with a value that no word has, all in another order.
+
+    The value that is added changes nothing that it is joined with, so of the linked
+    pairs with it any ones may be accepted.
+    """
+    letters, mul, accepted = reader
+    many = len(mul)
+    table = [list(row) + [x] for x, row in enumerate(mul)] + [list(range(many + 1))]
+    pairs = list(accepted) + [(s, many) for s in range(many + 1) if rng.random() < 0.5]
+    place = list(range(many + 1))
+    rng.shuffle(place)
+    moved = [[0] * (many + 1) for _ in place]
+    for x, row in enumerate(table):
+        for y, z in enumerate(row):
+            moved[place[x]][place[y]] = place[z]
+    return (tuple(place[v] for v in letters), tuple(tuple(row) for row in moved),
+            tuple(sorted((place[s], place[f]) for s, f in pairs)))
+
+
+def cyclic(many, heads, told=False):
+    """The reader of sums modulo `many`; it accepts all words or none."""
+    mul = tuple(tuple((x + y) % many for y in range(many)) for x in range(many))
+    return (tuple(heads), mul, tuple((s, 0) for s in range(many)) if told else ())
+
+
+def two_circles(one, two):
+    """A reader of two letters: rows of the first one are counted modulo `one`, rows
+    of the second one modulo `two`, and all mixed rows have one value."""
+    zero = one + two
+
+    def joined(x, y):
+        if x < one and y < one:
+            return (x + y) % one
+        if one <= x < zero and one <= y < zero:
+            return one + (x - one + y - one) % two
+        return zero
+
+    size = range(zero + 1)
+    return ((1, one + 1), tuple(tuple(joined(x, y) for y in size) for x in size), ())
+
+
+# Of two letters, 1 stands at endlessly many moments; at all but some; at the first one.
+OFTEN = ((0, 1), ((0, 1), (1, 1)), ((1, 1),))
+AT_LAST = ((0, 1), ((0, 0), (0, 1)), ((0, 1), (1, 1)))
+FIRST = ((0, 1), ((0, 0), (1, 1)), ((1, 0), (1, 1)))

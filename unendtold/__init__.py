@@ -1,0 +1,1 @@
+"""Sentences about runs that never end, decided by finite tables."""
