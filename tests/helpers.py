@@ -2,6 +2,7 @@
 
 import random
 from itertools import product
+from math import lcm
 
 
 def rows(count, most):
@@ -64,6 +65,11 @@ class Automaton:
                    for node in reached([(p, 0) for p in self.firsts])
                    if node[0] in self.again)
 
+    def acceptor(self):
+        """The same as the tuple that the program calls an acceptor."""
+        return (self.count, self.states, tuple(sorted(self.firsts)), tuple(sorted(self.steps)),
+                tuple(sorted(self.again)))
+
     def seen_as(self, seen, count):
         """The automaton of what is seen of its letters."""
         steps = {(p, seen[a], q) for (p, a, q) in self.steps}
@@ -96,6 +102,26 @@ class Automaton:
 
         accepted = tuple(pair for pair in linked(mul) if taken(*pair))
         return (tuple(number[key] for key in heads), mul, accepted)
+
+
+def values_of(heads, times):
+    """All values of words, as many as there are, in the order of their first words."""
+    letters = list(dict.fromkeys(heads))
+    known = dict.fromkeys(letters)
+    todo = list(letters)
+    for x in todo:
+        for y in letters:
+            z = times(x, y)
+            if z not in known:
+                known[z] = None
+                todo.append(z)
+    return list(known)
+
+
+def pair_values(one, two):
+    """All pairs of values that words have for two readers."""
+    return values_of(list(zip(one[0], two[0])),
+                     lambda x, y: (one[1][x[0]][y[0]], two[1][x[1]][y[1]]))
 
 
 def linked(mul):
@@ -170,6 +196,59 @@ def two_circles(one, two):
 
     size = range(zero + 1)
     return ((1, one + 1), tuple(tuple(joined(x, y) for y in size) for x in size), ())
+
+
+def spans_of(words_beside):
+    """How long the beginning and the round are that some words have together."""
+    return (max((len(before) for before, _ in words_beside), default=0),
+            lcm(*[len(again) for _, again in words_beside]))
+
+
+def letter_of(word, moment):
+    before, again = word
+    return before[moment] if moment < len(before) else again[(moment - len(before)) % len(again)]
+
+
+def beside_each_other(words_beside, count):
+    """Words of states as one word; of no words, the word of the letter 0."""
+    start, length = spans_of(words_beside)
+    row = [sum(letter_of(word, t) * count ** (len(words_beside) - 1 - k)
+               for k, word in enumerate(words_beside)) for t in range(start + length)]
+    return (row[:start], row[start:])
+
+
+def condition_holds(machine, runs, condition, number, moment):
+    """What a line of a condition says of words at a moment, in the words of point 26."""
+    name, *named = condition[number]
+
+    def holds(c, t):
+        return condition_holds(machine, runs, condition, c, t)
+
+    def marks(k):
+        return machine[3][letter_of(runs[k], moment)]
+
+    if name == "yes":
+        return True
+    if name == "mark":
+        return named[0] in marks(named[1])
+    if name == "same":
+        return marks(named[0]) == marks(named[1])
+    if name == "not":
+        return not holds(named[0], moment)
+    if name == "both":
+        return holds(named[0], moment) and holds(named[1], moment)
+    start, length = spans_of(runs)
+    if name == "next":
+        # Later moments are as those of the round, which come again and again.
+        return holds(named[0], moment + 1 if moment + 1 < start + length else start)
+    later = [t if t < start + length else start + (t - start) % length
+             for t in range(moment, max(moment, start) + length)]
+    for t in later:
+        if holds(named[1], t):
+            return True
+        if not holds(named[0], t):
+            return False
+    return False
 
 
 # Of two letters, 1 stands at endlessly many moments; at all but some; at the first one.

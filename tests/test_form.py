@@ -13,6 +13,10 @@ INTERFACE = {
     "words": ["letter_at", "spans", "side_by_side", "is_same"],
     "readers": ["fault", "value", "pair_of", "accepts"],
     "values": ["tidy", "denied", "joint", "hidden", "least", "first_words", "some_word", "parting"],
+    "acceptors": ["is_acceptor", "reader_of", "takes", "acceptor_of"],
+    "formulas": ["is_formula", "depth_of", "formula_reader", "decide"],
+    "back": ["formula_for"],
+    "conditions": ["is_condition", "says", "condition_reader"],
 }
 
 BUILTINS = set("""len range enumerate zip min max sum abs sorted reversed int str bool list tuple

@@ -67,9 +67,14 @@ def finished(growth, says):
 
     says(s, f) tells of the numbers of a linked pair whether it is accepted.
     """
-    mul = tuple([_row_of(growth, x) for x in range(len(growth.known))])
+    mul = table_of(growth)
     accepted = tuple([(s, f) for s, f in linked_pairs(mul) if says(s, f)])
     return (tuple(growth.heads), mul, accepted)
+
+
+def table_of(growth):
+    """Returns the table of the joined values of a growth."""
+    return tuple([_row_of(growth, x) for x in range(len(growth.known))])
 
 
 def _row_of(growth, x):
@@ -99,3 +104,8 @@ def made(letters, times, says):
     growth = grown(letters, times)
     known = growth.known
     return finished(growth, lambda s, f: says(known[s], known[f]))
+
+
+def of_first_letter(holds):
+    """Returns the tidy reader of a word's first letter: holds[a] tells of the letter a."""
+    return made(holds, lambda x, y: x, lambda s, f: s)

@@ -9,12 +9,12 @@ def fault(count, reader):
     many = len(mul)
     if many < 1 or many > MOST_VALUES:
         return ("values",)
-    if len(letters) != count or not _are_values(letters, many):
+    if len(letters) != count or not are_below(letters, many):
         return ("letters",)
     for x, row in enumerate(mul):
-        if len(row) != many or not _are_values(row, many):
+        if len(row) != many or not are_below(row, many):
             return ("mul", x)
-    if not _are_linked(mul, accepted) or not _is_ascending(accepted):
+    if not _are_linked(mul, accepted) or not is_ascending(accepted):
         return ("accepted",)
     wrong = _order_fault(mul)
     if wrong is None:
@@ -22,13 +22,14 @@ def fault(count, reader):
     return wrong
 
 
-def _are_values(row, many):
+def are_below(row, many):
+    """Returns True if all of some integers are from 0 to `many` - 1."""
     return all([0 <= v < many for v in row])
 
 
 def _are_linked(mul, pairs):
     for pair in pairs:
-        if len(pair) != 2 or not _are_values(pair, len(mul)):
+        if len(pair) != 2 or not are_below(pair, len(mul)):
             return False
         s, f = pair
         if mul[s][f] != s or mul[f][f] != f:
@@ -36,8 +37,9 @@ def _are_linked(mul, pairs):
     return True
 
 
-def _is_ascending(pairs):
-    return all([one < two for one, two in zip(pairs, pairs[1:])])
+def is_ascending(row):
+    """Returns True if a tuple is in strictly ascending order."""
+    return all([one < two for one, two in zip(row, row[1:])])
 
 
 def _order_fault(mul):
@@ -116,3 +118,8 @@ def pair_of(reader, word):
 def accepts(reader, word):
     """Returns True if a reader accepts an endless word."""
     return pair_of(reader, word) in reader[2]
+
+
+def accepted_by(reader):
+    """Returns a dict whose keys are the accepted pairs of a reader."""
+    return {pair: True for pair in reader[2]}

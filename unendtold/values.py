@@ -1,23 +1,19 @@
 """Values of words: readers that are made of readers, and words for them."""
 
 from unendtold.making import finished, grown, made, settled_values, words_of
-from unendtold.readers import settled_value
+from unendtold.readers import accepted_by, settled_value
 
 
 def tidy(reader):
     """Returns the reader with the values of words alone, in their order."""
-    told = _told(reader)
+    told = accepted_by(reader)
     return made(reader[0], _times(reader), lambda s, f: (s, f) in told)
 
 
 def denied(reader):
     """Returns the reader that accepts what this one does not."""
-    told = _told(reader)
+    told = accepted_by(reader)
     return made(reader[0], _times(reader), lambda s, f: (s, f) not in told)
-
-
-def _told(reader):
-    return {pair: True for pair in reader[2]}
 
 
 def _times(reader):
@@ -27,18 +23,28 @@ def _times(reader):
 
 def joint(kind, first, second):
     """Returns two readers joined: "both", "either" or just "one" has to accept."""
+    first_told = accepted_by(first)
+    second_told = accepted_by(second)
+    growth = joined_values(first, second)
+    known = growth.known
+
+    def says(s, f):
+        one = (known[s][0], known[f][0]) in first_told
+        two = (known[s][1], known[f][1]) in second_told
+        return _joined(kind, one, two)
+
+    return finished(growth, says)
+
+
+def joined_values(first, second):
+    """Returns the growth of the pairs of values that words have for two readers."""
     first_mul = first[1]
     second_mul = second[1]
-    first_told = _told(first)
-    second_told = _told(second)
 
     def times(x, y):
         return (first_mul[x[0]][y[0]], second_mul[x[1]][y[1]])
 
-    def says(s, f):
-        return _joined(kind, (s[0], f[0]) in first_told, (s[1], f[1]) in second_told)
-
-    return made(list(zip(first[0], second[0])), times, says)
+    return grown(list(zip(first[0], second[0])), times)
 
 
 def _joined(kind, one, two):

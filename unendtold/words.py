@@ -22,7 +22,7 @@ def spans(words):
 
 
 def side_by_side(words, count):
-    """Returns the word whose letters have those of the words as digits."""
+    """Returns the word whose letters have those of the words as digits, 0 for no words."""
     start, period = spans(words)
     row = [_joined_letter(words, count, moment) for moment in range(start + period)]
     return (row[:start], row[start:])
