@@ -251,6 +251,167 @@ def condition_holds(machine, runs, condition, number, moment):
     return False
 
 
+def some_condition(rng, runs, many, names=("not", "both", "next", "till", "till")):
+    lines = []
+    for at in range(many):
+        name = rng.choice(["yes"] + (["mark"] * 3 + ["same"] if runs else []) + list(names if at else ()))
+        numbers = {"yes": 0, "mark": 2, "same": 2, "not": 1, "next": 1, "both": 2, "till": 2}[name]
+        if name in ("yes", "mark", "same"):
+            named = [rng.randrange(runs) for _ in range(numbers)]
+            if name == "mark":
+                named[0] = rng.randrange(4)
+        else:
+            named = [rng.randrange(max(0, at - 4), at) for _ in range(numbers)]
+        lines.append((name, *named))
+    return tuple(lines)
+
+
+def some_machine(rng, most_states=4):
+    """A machine, often without first states, or with states without steps."""
+    count = rng.randrange(1, most_states + 1)
+    often = rng.choice([0.3, 0.5, 0.8])
+    return (count, tuple(p for p in range(count) if rng.random() < 0.5),
+            tuple((p, q) for p in range(count) for q in range(count) if rng.random() < often),
+            tuple(tuple(m for m in range(4) if rng.random() < 0.4) for _ in range(count)))
+
+
+def runs_of(machine, longest_beginning, longest_round):
+    """All runs of a machine that can be written with lists up to these lengths."""
+    return [word for word in words(machine[0], longest_beginning, longest_round)
+            if is_a_run(machine, word)]
+
+
+def is_a_run(machine, word):
+    """Whether a word begins with a first state and goes by steps, moment by moment."""
+    moments = len(word[0]) + len(word[1])
+    return letter_of(word, 0) in machine[1] and all(
+        (letter_of(word, t), letter_of(word, t + 1)) in machine[2] for t in range(moments))
+
+
+class Search:
+    """Looks for some more runs beside told words, of which a condition says something.
+
+    Nodes are a moment, the states of the runs, and what is guessed of the lines that
+    are next or till. There are such runs if and only if a circle is reached in which
+    no till waits for ever.
+    """
+
+    def __init__(self, machine, told, condition, more):
+        self.machine, self.told, self.condition, self.more = machine, told, condition, more
+        self.start, self.length = spans_of(told)
+        self.guessed = [at for at, line in enumerate(condition) if line[0] in ("next", "till")]
+        self.known = {}
+
+    def truths(self, node):
+        """What each line says at a node."""
+        if node not in self.known:
+            moment, states, guess = node
+            now = [letter_of(word, moment) for word in self.told] + list(states)
+            marks = [self.machine[3][p] for p in now]
+            told = []
+            for at, (name, *named) in enumerate(self.condition):
+                told.append({
+                    "yes": lambda: True,
+                    "mark": lambda: named[0] in marks[named[1]],
+                    "same": lambda: marks[named[0]] == marks[named[1]],
+                    "not": lambda: not told[named[0]],
+                    "both": lambda: told[named[0]] and told[named[1]],
+                    "next": lambda: guess[self.guessed.index(at)],
+                    "till": lambda: guess[self.guessed.index(at)],
+                }[name]())
+            self.known[node] = told
+        return self.known[node]
+
+    def fits(self, node, then):
+        """Whether the guesses of a node are right if another one comes next."""
+        now, later = self.truths(node), self.truths(then)
+        for at in self.guessed:
+            name, *named = self.condition[at]
+            if name == "next":
+                right = later[named[0]]
+            else:
+                right = now[named[1]] or now[named[0]] and later[at]
+            if now[at] != right:
+                return False
+        return True
+
+    def nodes(self, moment, states):
+        return [(moment, states, guess) for guess in product((False, True), repeat=len(self.guessed))]
+
+    def onward(self, node):
+        moment, states, _ = node
+        then = moment + 1 if moment + 1 < self.start + self.length else self.start
+        rows = product(*[[q for p, q in self.machine[2] if p == state] for state in states])
+        return [other for row in rows for other in self.nodes(then, row) if self.fits(node, other)]
+
+    def finds(self, wanted):
+        """Whether there are such runs with which the last line says what is wanted."""
+        rows = product(self.machine[1], repeat=self.more)
+        todo = [node for row in rows for node in self.nodes(0, row) if self.truths(node)[-1] == wanted]
+        edges = {}
+        while todo:
+            node = todo.pop()
+            if node not in edges:
+                edges[node] = self.onward(node)
+                todo.extend(edges[node])
+        left = set(edges)
+        goals = [left] + [{node for node in edges if self.truths(node)[named[1]] or not self.truths(node)[at]}
+                          for at, (name, *named) in enumerate(self.condition) if name == "till"]
+        size = None
+        while size != len(left):
+            size = len(left)
+            for goal in goals:
+                left = reaching(edges, left, goal & left)
+        return bool(left)
+
+
+def reaching(edges, inside, goal):
+    """The nodes from which a walk of one step or more inside of some nodes ends at a goal."""
+    back = {}
+    for node in inside:
+        for other in edges[node]:
+            back.setdefault(other, []).append(node)
+    found = set()
+    todo = list(goal)
+    while todo:
+        for node in back.get(todo.pop(), []):
+            if node not in found:
+                found.add(node)
+                todo.append(node)
+    return found
+
+
+def ways_letters(machine, reader):
+    """The values that letters have for the ways of a machine, in the words of point 32."""
+    count, _, steps, _ = machine
+    return [tuple(sorted((p, q, reader[0][a * count + p]) for p, q in steps))
+            for a in range(len(reader[0]) // count)]
+
+
+def joined_ways(reader):
+    """How values of the ways are joined."""
+    mul = reader[1]
+    return lambda x, y: tuple(sorted({(p, r, mul[u][v]) for p, q, u in x for m, r, v in y if m == q}))
+
+
+def ways_values(machine, reader):
+    """All values that words have for the ways of a machine, as many as there are."""
+    return values_of(ways_letters(machine, reader), joined_ways(reader))
+
+
+def ways_of(machine, reader):
+    """The reader of the ways of a machine, however large."""
+    told = dict.fromkeys(reader[2])
+    joined = joined_ways(reader)
+    known = ways_values(machine, reader)
+    number = {x: at for at, x in enumerate(known)}
+    table = tuple(tuple(number[joined(x, y)] for y in known) for x in known)
+    pairs = [(s, f) for s, f in linked(table) if any(
+        (u, v) in told for p, q, u in known[s] if p in machine[1]
+        for m, r, v in known[f] if m == r == q)]
+    return (tuple(number[x] for x in ways_letters(machine, reader)), table, tuple(pairs))
+
+
 # Of two letters, 1 stands at endlessly many moments; at all but some; at the first one.
 OFTEN = ((0, 1), ((0, 1), (1, 1)), ((1, 1),))
 AT_LAST = ((0, 1), ((0, 0), (0, 1)), ((0, 1), (1, 1)))

@@ -5,7 +5,7 @@ import random
 import unittest
 
 from helpers import (AT_LAST, FIRST, OFTEN, beside_each_other, condition_holds, pair_values,
-                     some_words, spans_of, values_of, words)
+                     some_condition, some_words, spans_of, values_of, words)
 from unendtold.conditions import condition_reader, is_condition, says
 from unendtold.errors import TooManyValues
 from unendtold.readers import accepts, fault
@@ -89,21 +89,6 @@ def till_values(one, two):
             found[value_of(behind)] = True
             stretches.extend([times(v, y) for v in behind] + [y] for y in dict.fromkeys(letters))
     return list(found)
-
-
-def some_condition(rng, runs, many, names=("not", "both", "next", "till", "till")):
-    lines = []
-    for at in range(many):
-        name = rng.choice(["yes"] + (["mark"] * 3 + ["same"] if runs else []) + list(names if at else ()))
-        numbers = {"yes": 0, "mark": 2, "same": 2, "not": 1, "next": 1, "both": 2, "till": 2}[name]
-        if name in ("yes", "mark", "same"):
-            named = [rng.randrange(runs) for _ in range(numbers)]
-            if name == "mark":
-                named[0] = rng.randrange(4)
-        else:
-            named = [rng.randrange(max(0, at - 4), at) for _ in range(numbers)]
-        lines.append((name, *named))
-    return tuple(lines)
 
 
 def some_machine(rng):

@@ -17,7 +17,14 @@ INTERFACE = {
     "formulas": ["is_formula", "depth_of", "formula_reader", "decide"],
     "back": ["formula_for"],
     "conditions": ["is_condition", "says", "condition_reader"],
+    "runs": ["is_machine", "is_run", "is_sentence", "decide", "answer"],
+    "safety": ["closure", "live_part", "is_safety", "is_liveness", "settled"],
+    "notation": ["format_lines", "parse_condition", "parse_formula"],
+    "bench": ["Workbench"],
 }
+
+METHODS_OF_WORKBENCH = ["__init__", "machine", "change", "turn_step", "undo", "redo", "keep", "drop",
+                        "names", "holds", "shown", "made"]
 
 BUILTINS = set("""len range enumerate zip min max sum abs sorted reversed int str bool list tuple
 dict set isinstance ord repr any all divmod Exception ValueError TypeError KeyError IndexError
@@ -157,6 +164,14 @@ class Interface(unittest.TestCase):
                        if isinstance(node, (ast.FunctionDef, ast.ClassDef))]
             for name in names:
                 self.assertIn(name, defined)
+
+    def test_methods_stand_in_the_class_itself(self):
+        tree = ast.parse((PACKAGE / "bench.py").read_text())
+        found = [node for node in tree.body if isinstance(node, ast.ClassDef)
+                 and node.name == "Workbench"][0]
+        defined = [node.name for node in found.body if isinstance(node, ast.FunctionDef)]
+        for name in METHODS_OF_WORKBENCH:
+            self.assertIn(name, defined)
 
 
 if __name__ == "__main__":

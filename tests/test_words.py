@@ -4,7 +4,7 @@ from copy import deepcopy
 from math import lcm
 
 from helpers import rewritten, some_words, words
-from unendtold.words import is_same, letter_at, side_by_side, spans
+from unendtold.words import is_same, letter_at, shortest, side_by_side, spans
 
 
 def unrolled(word, many):
@@ -138,6 +138,33 @@ class IsSame(unittest.TestCase):
         self.assertFalse(is_same(one, two))
 
 
+class Shortest(unittest.TestCase):
+    """The same word, written as short as can be."""
+
+    def test_by_hand(self):
+        for word, told in [(([], [0]), ([], [0])), (([0, 0], [0, 0, 0]), ([], [0])),
+                           (([1, 0], [1, 0]), ([], [1, 0])), (([0], [1, 0]), ([], [0, 1])),
+                           (([0, 1, 1], [0, 1, 0, 1]), ([0, 1], [1, 0])),
+                           (([2, 2], [1, 2, 0, 2]), ([2], [2, 1, 2, 0])),
+                           (([], [0, 1, 0]), ([], [0, 1, 0])), (([1], [0, 0, 1, 0, 0, 1]), ([], [1, 0, 0]))]:
+            self.assertEqual(shortest(word), told)
+
+    def test_no_other_writing_is_shorter(self):
+        known = words(2, 3, 4)
+        for word in known:
+            found = shortest(word)
+            same = [other for other in known if unrolled(other, 24) == unrolled(word, 24)]
+            self.assertIn(found, same)
+            self.assertEqual(len(found[0]), min(len(other[0]) for other in same))
+            self.assertEqual(len(found[1]), min(len(other[1]) for other in same))
+
+    def test_rewritten(self):
+        rng = random.Random(81)
+        for word in some_words(rng, 2, 200):
+            self.assertEqual(shortest(rewritten(rng, word)), shortest(word))
+            self.assertTrue(is_same(shortest(word), word))
+
+
 class Arguments(unittest.TestCase):
     def test_nothing_is_modified(self):
         rows = [([0, 1], [1, 0, 1]), ([], [1, 1])]
@@ -146,6 +173,7 @@ class Arguments(unittest.TestCase):
         spans(rows)
         side_by_side(rows, 2)
         is_same(rows[0], rows[1])
+        shortest(rows[0]), shortest(rows[1])
         self.assertEqual(rows, before)
 
     def test_returned_lists_are_new(self):
@@ -155,6 +183,12 @@ class Arguments(unittest.TestCase):
         joined[1].append(9)
         self.assertEqual(rows, [([0, 1], [1, 0, 1])])
         self.assertEqual(side_by_side(rows, 2), ([0, 1], [1, 0, 1]))
+        for word in [([1], [0]), ([], [0, 0]), ([0], [1, 0])]:
+            before = deepcopy(word)
+            found = shortest(word)
+            found[0].append(9)
+            found[1].append(9)
+            self.assertEqual(word, before)
 
 
 if __name__ == "__main__":

@@ -1,6 +1,6 @@
 """Acceptors: states and steps, and runs that meet some states again and again."""
 
-from unendtold.making import finished, grown
+from unendtold.making import finished, grown, mask_of, members_of, union_of
 from unendtold.readers import accepts, are_below, is_ascending
 from unendtold.values import tidy
 
@@ -42,7 +42,7 @@ class Rows:
         if row not in self.numbers:
             self.numbers[row] = len(self.known)
             self.known.append(row)
-            self.reached.append(_states_in(row[0]))
+            self.reached.append(members_of(row[0]))
         return self.numbers[row]
 
     def letter_value(self, ends, endless):
@@ -71,30 +71,11 @@ class Rows:
 
     def begun(self, firsts, x):
         """Returns the mask of the states that are reached from the first states."""
-        mask = 0
-        for p in firsts:
-            mask |= self.known[x[p]][0]
-        return mask
+        return union_of([self.known[x[p]][0] for p in firsts])
 
     def rounds(self, x):
         """Returns the mask of the states that are reached from themselves, `again` being met."""
-        return _mask([q for q, r in enumerate(x) if self.known[r][1] >> q & 1])
-
-
-def _mask(states):
-    mask = 0
-    for q in states:
-        mask |= 1 << q
-    return mask
-
-
-def _states_in(mask):
-    states = []
-    while mask:
-        lowest = mask & -mask
-        states.append(lowest.bit_length() - 1)
-        mask ^= lowest
-    return states
+        return mask_of([q for q, r in enumerate(x) if self.known[r][1] >> q & 1])
 
 
 def reader_of(acceptor):
@@ -104,7 +85,7 @@ def reader_of(acceptor):
     for p, a, q in steps:
         ends[a][p] |= 1 << q
     rows = Rows()
-    heads = [rows.letter_value(row, _mask(again)) for row in ends]
+    heads = [rows.letter_value(row, mask_of(again)) for row in ends]
     growth = grown(heads, lambda x, y: rows.times(x, y))
     begun = [rows.begun(firsts, x) for x in growth.known]
     rounds = [rows.rounds(x) for x in growth.known]

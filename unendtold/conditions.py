@@ -10,7 +10,7 @@ MOST_RUNS = 3
 MANY_MARKS = 4
 
 # For each name what its members are.
-SHAPES = {
+CONDITION_LINES = {
     "yes": (),
     "mark": ("mark", "run"),
     "same": ("run", "run"),
@@ -37,9 +37,9 @@ def is_condition(condition, runs):
 
 
 def _is_line(line, at, runs):
-    if not line or line[0] not in SHAPES:
+    if not line or line[0] not in CONDITION_LINES:
         return False
-    shape = SHAPES[line[0]]
+    shape = CONDITION_LINES[line[0]]
     if len(line) != len(shape) + 1:
         return False
     bounds = {"mark": MANY_MARKS, "run": runs, "line": at}
@@ -112,7 +112,7 @@ def _used(condition):
     used[-1] = True
     for at in reversed(range(len(condition))):
         line = condition[at]
-        for kind, number in zip(SHAPES[line[0]], line[1:]):
+        for kind, number in zip(CONDITION_LINES[line[0]], line[1:]):
             if used[at] and kind == "line":
                 used[number] = True
     return used

@@ -8,7 +8,7 @@ MOST_LINES = 60
 HIGHEST_SET = 4
 
 # For each name what the line is about, and then what each of its members is.
-SHAPES = {
+FORMULA_LINES = {
     "set": ("moment", "set"),
     "not": ("moment", "moment"),
     "and": ("moment", "moment", "moment"),
@@ -32,15 +32,15 @@ def is_formula(formula):
     for line in formula:
         if not _is_line(line, kinds):
             return False
-        kinds.append(SHAPES[line[0]][0])
+        kinds.append(FORMULA_LINES[line[0]][0])
     return kinds[-1] == "whole"
 
 
 def _is_line(line, kinds):
     """Returns True for a line behind others that are about what `kinds` says."""
-    if not line or line[0] not in SHAPES:
+    if not line or line[0] not in FORMULA_LINES:
         return False
-    shape = SHAPES[line[0]]
+    shape = FORMULA_LINES[line[0]]
     if len(line) != len(shape):
         return False
     return all([_is_member(kind, number, kinds) for kind, number in zip(shape[1:], line[1:])])
@@ -64,7 +64,7 @@ def depth_of(formula, number):
 
 def _named_wholes(line):
     """Returns the numbers of the lines about all moments that a line names."""
-    return [number for kind, number in zip(SHAPES[line[0]][1:], line[1:]) if kind == "whole"]
+    return [number for kind, number in zip(FORMULA_LINES[line[0]][1:], line[1:]) if kind == "whole"]
 
 
 def formula_reader(formula, sets):

@@ -1,7 +1,8 @@
 """Making tidy readers of values that are known by keys, from the letters on.
 
 A key is anything that can be a key of a dict. Values are found in the order of
-their first words, and no more of them than a reader may have.
+their first words, and no more of them than a reader may have. Sets of values, or of
+states, are masks where there are many: integers with a bit for each member.
 """
 
 from unendtold.errors import TooManyValues
@@ -109,3 +110,26 @@ def made(letters, times, says):
 def of_first_letter(holds):
     """Returns the tidy reader of a word's first letter: holds[a] tells of the letter a."""
     return made(holds, lambda x, y: x, lambda s, f: s)
+
+
+def mask_of(members):
+    """Returns the mask of some numbers."""
+    return union_of([1 << member for member in members])
+
+
+def union_of(masks):
+    """Returns the mask of the members of any of some masks."""
+    union = 0
+    for mask in masks:
+        union |= mask
+    return union
+
+
+def members_of(mask):
+    """Returns the list of the members of a mask, ascending."""
+    members = []
+    while mask:
+        lowest = mask & -mask
+        members.append(lowest.bit_length() - 1)
+        mask ^= lowest
+    return members

@@ -1,6 +1,6 @@
 """Values of words: readers that are made of readers, and words for them."""
 
-from unendtold.making import finished, grown, made, settled_values, words_of
+from unendtold.making import finished, grown, made, mask_of, settled_values, union_of, words_of
 from unendtold.readers import accepted_by, settled_value
 
 
@@ -68,20 +68,13 @@ def hidden(reader, seen, count):
     partners = [0 for _ in mul]
     for s, f in accepted:
         partners[f] |= 1 << s
-    given = [_union([1 << v for v in some]) for some in growth.known]
-    wanted = [_union([partners[v] for v in some]) for some in growth.known]
+    given = [mask_of(some) for some in growth.known]
+    wanted = [union_of([partners[v] for v in some]) for some in growth.known]
     return finished(growth, lambda s, f: given[s] & wanted[f] != 0)
 
 
 def _members(row):
     return tuple(sorted(set(row)))
-
-
-def _union(masks):
-    union = 0
-    for mask in masks:
-        union |= mask
-    return union
 
 
 def least(reader):

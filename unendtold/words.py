@@ -45,3 +45,22 @@ def is_same(one, two):
         if letter_at(one, moment) != letter_at(two, moment):
             return False
     return True
+
+
+def shortest(word):
+    """Returns the same word with the shortest round and the shortest beginning."""
+    beginning, again = word
+    period = _period(again)
+    end = len(beginning)
+    while end > 0 and beginning[end - 1] == again[(end - 1 - len(beginning)) % period]:
+        end -= 1
+    start = (end - len(beginning)) % period
+    return (beginning[:end], again[start:period] + again[:start])
+
+
+def _period(row):
+    """Returns the length of the shortest row that makes up a row again and again."""
+    for size in range(1, len(row)):
+        if len(row) % size == 0 and row[size:] == row[:-size]:
+            return size
+    return len(row)
